@@ -1,0 +1,1 @@
+"""Mastcalls: calls that move from mast to mast, and are never dropped."""

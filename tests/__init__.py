@@ -1,0 +1,1 @@
+"""Tests of mastcalls: run them by `python3 -m unittest discover -s tests -t .`."""
