@@ -56,7 +56,7 @@ class LackingTest(unittest.TestCase):
     def test_enough_and_nothing_less_in_sum(self):
         for scene in all_small_scenes((0,)):
             self.check(scene)
-        for scene in mixed_scenes(120, 16):
+        for scene in mixed_scenes(400, 16):
             self.check(scene)
 
 
@@ -113,7 +113,7 @@ class FallsTest(unittest.TestCase):
         self.assertEqual([sure_calls(scene, most) for most in range(5)], [("x", "y"), ("x",), (), (), ()])
 
     def test_by_all_lots_of_masts(self):
-        for scene in mixed_scenes(120, 17, most_calls=5):
+        for scene in mixed_scenes(200, 17):
             was = Scene(scene.channels, scene.calls)
             lots = subsets(scene.channels)
             lost = {lot: lost_by(scene_left(scene, lot)) for lot in lots}
@@ -144,7 +144,7 @@ class SpareTest(unittest.TestCase):
             self.assertIs(caught.exception.name, mast)
 
     def test_one_channel_after_another(self):
-        for scene in list(all_small_scenes((0,))) + mixed_scenes(120, 18, most_channels=4):
+        for scene in list(all_small_scenes((0,))) + mixed_scenes(300, 18, most_channels=4):
             for mast in scene.channels:
                 many = 0
                 while many < scene.channels[mast]:

@@ -58,7 +58,7 @@ class SeatsTest(unittest.TestCase):
             for names in permutations(scene.calls):
                 self.check_adding(scene, names)
         random = Random(61)
-        for scene in mixed_scenes(400, 6):
+        for scene in mixed_scenes(1000, 6):
             names = list(scene.calls)
             random.shuffle(names)
             self.check_adding(scene, names)
@@ -111,11 +111,11 @@ class KeptTest(unittest.TestCase):
             self.check(scene)
 
     def test_it_beats_every_seatable_lot_on_larger_scenes(self):
-        for scene in mixed_scenes(400, 8):
+        for scene in mixed_scenes(1000, 8):
             self.check(scene)
 
     def test_exactly_who_is_not_kept_has_a_paper(self):
-        for scene in list(all_small_scenes((3,))) + mixed_scenes(150, 9):
+        for scene in list(all_small_scenes((3,))) + mixed_scenes(400, 9):
             told = Kept(scene)
             for name in scene.calls:
                 papers = [lot for lot in subsets(scene.calls) if holds_against(scene, told.seating, name, lot)]

@@ -71,7 +71,7 @@ class FewestTest(unittest.TestCase):
     def test_larger_scenes(self):
         random = Random(91)
         seen = set()
-        for scene in mixed_scenes(600, 12):
+        for scene in mixed_scenes(1500, 12):
             seating = Kept(scene).seating
             before = {}
             for name in list(scene.calls) + ["gone"]:
