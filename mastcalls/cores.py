@@ -59,8 +59,9 @@ class Core:
         elif word == "begin":
             put_in_order(self.lines, name, Line(deed[2]))
         elif word == "hear":
-            self.lines[name].report = deed[2]
-            self.lines[name].heard = tuple(sorted(set(deed[3])))
+            line = self.lines[name]
+            line.report = deed[2]
+            line.heard = tuple(sorted(set(deed[3])))
         else:
             del self.lines[name]
             put_in_order(self.gone, name, "end")

@@ -28,7 +28,7 @@ def deeds_in(text):
 def deed_of(line, number):
     """The deed of a whole line of this number; None if it is none."""
     words = line.split(" ")
-    if len(words) < 3 or words[0] != str(number) or words[-1] != str(number):
+    if words[0] != str(number) or words[-1] != str(number):
         return None
     try:
         return read_deed(" ".join(words[1:-1]), number)

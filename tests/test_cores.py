@@ -146,6 +146,20 @@ class NamesOnceTest(unittest.TestCase):
         self.assertEqual(core.do(("hear", "x", 0, ("a",))), (("gone", "x", ("x",)),))
 
 
+    def test_names_that_are_words_of_deeds_too(self):
+        words = ("mast", "down", "up", "begin", "hear", "end", "tick")
+        core = core_of(tuple(("mast", word, 1) for word in words) + tuple(("begin", word, 1) for word in words))
+        for word in words:
+            core.do(("hear", word, 1, (word,)))
+        self.assertEqual(core.seats_now(), {word: word for word in words})
+        for word in words:
+            core.do(("down", word))
+            core.do(("up", word))
+            core.do(("end", word))
+        self.assertEqual((core.lines, core.down, core.time), ({}, {}, 0))
+        self.assertEqual(core.gone, {word: "end" for word in words})
+
+
 class RestTest(unittest.TestCase):
 
     def test_who_is_heard_by_nobody_rests(self):

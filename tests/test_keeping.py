@@ -158,6 +158,8 @@ class PaperTest(unittest.TestCase):
     def test_a_call_that_is_not_there(self):
         self.assertFalse(self.holds("cat", "ann", "ben", "cat", "fay"))
         self.assertFalse(self.holds("fay", "ann", "ben", "fay"))
+        self.assertFalse(self.holds("fay", "ann"))
+        self.assertFalse(self.holds("fay"))
         self.assertFalse(self.holds("cat", "ann", "ben", "cat", ""))
 
     def test_others_are_earlier_and_have_a_seat(self):

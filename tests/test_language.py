@@ -128,7 +128,7 @@ class LanguageTest(unittest.TestCase):
                        if isinstance(node, ast.FunctionDef)]
             for word in names_bound(tree):
                 self.assertNotIn(word, NEVER + WORDS, name)
-                self.assertTrue(word in methods or not hasattr(builtins, word), (name, word))
+                self.assertTrue(word in methods or word == "_" or not hasattr(builtins, word), (name, word))
             for node in ast.walk(tree):
                 if isinstance(node, ast.arg):
                     self.assertNotIn(node.arg, tops, name)
@@ -176,6 +176,25 @@ class LanguageTest(unittest.TestCase):
                     above = parents[node]
                     is_in = isinstance(above, ast.Call) and getattr(above.func, "id", "") in ("sorted", "len")
                     self.assertTrue(is_in, (name, node.lineno))
+
+    def test_attributes_are_assigned_through_local_names(self):
+        for name, tree in trees():
+            for node in ast.walk(tree):
+                if isinstance(node, ast.Attribute) and isinstance(node.ctx, ast.Store):
+                    self.assertIsInstance(node.value, ast.Name, (name, node.lineno))
+
+    def test_tables_of_files_are_only_read(self):
+        tables = set()
+        for _, tree in trees():
+            for node in tree.body:
+                if isinstance(node, ast.Assign) and isinstance(node.value, (ast.Dict, ast.List)):
+                    tables.add(node.targets[0].id)
+        self.assertEqual(tables, {"PARTS"})
+        for name, tree in trees():
+            parents = {child: node for node in ast.walk(tree) for child in ast.iter_child_nodes(node)}
+            for node in ast.walk(tree):
+                if isinstance(node, ast.Name) and isinstance(node.ctx, ast.Load) and node.id in tables:
+                    self.assertIsInstance(parents[node], (ast.Subscript, ast.Compare), (name, node.lineno))
 
     def test_handlers(self):
         for name, tree in trees():

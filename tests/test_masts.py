@@ -16,7 +16,7 @@ class MastTest(unittest.TestCase):
 
     def test_lists(self):
         mast = Mast("a")
-        mast.take(3, (("ann", 1), ("ben", 2)))
+        mast.take(3, (("ben", 2), ("ann", 1)))
         self.assertEqual((mast.number, list(mast.rows.items())), (3, [("ann", 1), ("ben", 2)]))
         mast.take(2, (("cat", 3),))
         self.assertEqual((mast.number, mast.rows), (3, {"ann": 1, "ben": 2}))
