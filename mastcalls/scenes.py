@@ -1,7 +1,7 @@
 """Scenes: masts with channels, and calls that some of them hear ([3] to [5])."""
 
 from mastcalls.errors import BadScene
-from mastcalls.helpers import is_number
+from mastcalls.helpers import has_key, is_number
 
 SMALL_LETTERS = "abcdefghijklmnopqrstuvwxyz"
 FIGURES = "0123456789"
@@ -74,8 +74,13 @@ def check_call(name, call, channels):
         raise BadScene("call")
     if not is_number(call.worth, 0, LIMIT):
         raise BadScene("worth")
-    known = [mast for mast in call.heard if mast in channels]
-    if len(known) < len(call.heard) or len(set(known)) < len(known):
+    check_heard(call.heard, channels)
+
+
+def check_heard(heard, channels):
+    """BadScene for a row of masts that hear somebody, if one isn't there, or stands twice."""
+    known = [mast for mast in heard if has_key(channels, mast)]
+    if len(known) < len(heard) or len(set(known)) < len(known):
         raise BadScene("heard")
 
 

@@ -189,7 +189,7 @@ class LanguageTest(unittest.TestCase):
             for node in tree.body:
                 if isinstance(node, ast.Assign) and isinstance(node.value, (ast.Dict, ast.List)):
                     tables.add(node.targets[0].id)
-        self.assertEqual(tables, {"PARTS"})
+        self.assertEqual(tables, {"PARTS", "QUESTIONS", "WORDS"})
         for name, tree in trees():
             parents = {child: node for node in ast.walk(tree) for child in ast.iter_child_nodes(node)}
             for node in ast.walk(tree):

@@ -1,0 +1,95 @@
+"""A town: whoever is taken is never given up ([25])."""
+
+from mastcalls.errors import BadName
+from mastcalls.helpers import has_key, put_in_order
+from mastcalls.keeping import Kept
+from mastcalls.moving import moves_of, reseated
+from mastcalls.safety import danger_for
+from mastcalls.scenes import Call, Scene, is_name
+
+
+class Town:
+    """Calls that go about a map, of whose masts some may be down."""
+
+    def __init__(self, plan, most):
+        self.plan = plan
+        self.most = most
+        self.down = ()
+        self.places = {}
+        self.seating = {}
+        self.refused = 0
+        self.moved = 0
+
+    def begin(self, name, zone):
+        """Takes a call, and tells None, if there is no danger with it; else tells the danger."""
+        if not is_name(name) or name in self.places:
+            raise BadName(name)
+        if not has_key(self.plan.heard, zone):
+            raise BadName(zone)
+        places = dict(self.places)
+        put_in_order(places, name, zone)
+        danger = danger_for(self.plan, places, self.most)
+        if danger is not None:
+            self.refused += 1
+            return danger
+        self.places = places
+        self.settle()
+        return None
+
+    def go(self, name, zone):
+        """A call goes along one road; the calls that move."""
+        self.check_call(name)
+        if zone not in self.plan.next_zones(self.places[name]):
+            raise BadName(zone)
+        self.places[name] = zone
+        return self.settle()
+
+    def end(self, name):
+        """A call ends; the calls that move."""
+        self.check_call(name)
+        del self.places[name]
+        return self.settle()
+
+    def fall(self, mast):
+        """A mast goes down, if one more may be; the calls that move."""
+        if not has_key(self.plan.channels, mast) or mast in self.down or len(self.down) >= self.most:
+            raise BadName(mast)
+        self.down = tuple(sorted(self.down + (mast,)))
+        return self.settle()
+
+    def rise(self, mast):
+        """A mast goes up again; the calls that move."""
+        if mast not in self.down:
+            raise BadName(mast)
+        self.down = tuple([other for other in self.down if other != mast])
+        return self.settle()
+
+    def check_call(self, name):
+        """BadName for a call that isn't there."""
+        if not has_key(self.places, name):
+            raise BadName(name)
+
+    def settle(self):
+        """Seats all calls that are heard, with fewest moves; the calls that move."""
+        scene = self.scene()
+        before = self.seating
+        # As no danger is there all of them are kept.
+        self.seating = reseated(scene, Kept(scene).seating, before)
+        moves = moves_of(self.seating, before)
+        self.moved += len([name for name in moves if name in before])
+        return moves
+
+    def scene(self):
+        """The masts that are up, and the calls that one of them hears."""
+        plan = self.plan
+        channels = {mast: plan.channels[mast] for mast in plan.channels if mast not in self.down}
+        calls = {}
+        for name, zone in self.places.items():
+            heard = plan.up_masts(zone, self.down)
+            if heard:
+                calls[name] = Call(0, heard)
+        return Scene(channels, calls)
+
+    def is_safe(self):
+        """Whether no journey is a danger, whichever masts fall."""
+        return danger_for(self.plan, self.places, self.most) is None
