@@ -1,4 +1,6 @@
-"""What several modules need: numbers within limits, and dicts whose keys ascend."""
+"""What several modules need: numbers within limits, dicts whose keys ascend, letters at places."""
+
+from mastcalls.errors import BadName
 
 
 def is_number(thing, low, high):
@@ -17,3 +19,13 @@ def put_in_order(table, key, value):
     table[key] = value
     for other in later:
         table[other] = table.pop(other)
+
+
+def take_letter(letters, at, is_kept):
+    """The letter at a place, which stays if it is kept; BadName for a place without one."""
+    if not is_number(at, 0, len(letters) - 1):
+        raise BadName(at)
+    letter = letters[at]
+    if not is_kept:
+        del letters[at]
+    return letter

@@ -2,7 +2,7 @@
 
 from mastcalls.ends import End
 from mastcalls.errors import BadName
-from mastcalls.helpers import has_key, is_number, put_in_order
+from mastcalls.helpers import has_key, put_in_order, take_letter
 from mastcalls.journals import Journal
 from mastcalls.masts import Mast
 
@@ -64,10 +64,7 @@ class World:
 
     def deliver(self, at, is_kept):
         """The letter at a place comes, and stays if it is kept."""
-        self.check_place(at)
-        letter = self.letters[at]
-        if not is_kept:
-            del self.letters[at]
+        letter = take_letter(self.letters, at, is_kept)
         if letter[0] in ("list", "radio", "down"):
             self.bring_to_mast(letter)
         elif letter[0] == "air":
@@ -90,8 +87,7 @@ class World:
 
     def lose(self, at):
         """The letter at a place never comes."""
-        self.check_place(at)
-        del self.letters[at]
+        take_letter(self.letters, at, False)
 
     def mast_falls(self, mast):
         """A mast forgets its rows."""
@@ -123,8 +119,3 @@ class World:
         """BadName for a mast that never was."""
         if not has_key(self.masts, mast):
             raise BadName(mast)
-
-    def check_place(self, at):
-        """BadName for the place of a letter that isn't there."""
-        if not is_number(at, 0, len(self.letters) - 1):
-            raise BadName(at)

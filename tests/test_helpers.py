@@ -1,9 +1,10 @@
-"""[2]: integers that are no bools, and keys that ascend."""
+"""[2]: integers that are no bools, keys that ascend, letters at places."""
 
 import unittest
 from itertools import permutations
 
-from mastcalls.helpers import has_key, is_number, put_in_order
+from mastcalls.errors import BadName
+from mastcalls.helpers import has_key, is_number, put_in_order, take_letter
 
 
 class HelpersTest(unittest.TestCase):
@@ -28,3 +29,14 @@ class HelpersTest(unittest.TestCase):
             for key in keys:
                 put_in_order(table, key, key)
             self.assertEqual(list(table.items()), [("a", "a"), ("b", "b"), ("c", "c"), ("d", "d")])
+
+    def test_take_letter(self):
+        letters = ["x", "y", "z"]
+        self.assertEqual((take_letter(letters, 1, True), letters), ("y", ["x", "y", "z"]))
+        self.assertEqual((take_letter(letters, 1, False), letters), ("y", ["x", "z"]))
+        for at in (2, -1, True, False, None, "0", 0.0):
+            for is_kept in (True, False):
+                with self.assertRaises(BadName) as caught:
+                    take_letter(letters, at, is_kept)
+                self.assertIs(caught.exception.name, at)
+        self.assertEqual(letters, ["x", "z"])
