@@ -13,11 +13,19 @@ def whole_line(number, deed):
 
 def deeds_in(text):
     """The deeds of the longest beginning of whole lines, and how many signs these take."""
+    return whole_beginning(text, deed_of)
+
+
+def whole_beginning(text, read):
+    """The deeds of the longest beginning of whole lines, each read by a function of the words between its
+    numbers, that tells None for no deed; and how many signs these lines take."""
     deeds = []
     signs = 0
     # What stands behind the last line feed is no line yet.
     for line in text.split("\n")[:-1]:
-        deed = deed_of(line, len(deeds))
+        words = line.split(" ")
+        number = str(len(deeds))
+        deed = read(words[1:-1]) if words[0] == number and words[-1] == number else None
         if deed is None:
             break
         deeds.append(deed)
@@ -25,13 +33,10 @@ def deeds_in(text):
     return tuple(deeds), signs
 
 
-def deed_of(line, number):
-    """The deed of a whole line of this number; None if it is none."""
-    words = line.split(" ")
-    if words[0] != str(number) or words[-1] != str(number):
-        return None
+def deed_of(words):
+    """The deed of the core that some words tell; None if they tell none."""
     try:
-        return read_deed(" ".join(words[1:-1]), number)
+        return read_deed(" ".join(words), 0)
     except BadText:
         return None
 
@@ -71,6 +76,11 @@ class Journal:
 
     def fallen(self, cut):
         """The text behind a fall that leaves so many signs of what is loose."""
-        if not is_number(cut, 0, len(self.loose)):
-            raise BadCut(cut)
-        return self.text + self.loose[:cut]
+        return cut_text(self.text, self.loose, cut)
+
+
+def cut_text(text, loose, cut):
+    """A settled text with so many signs of a loose one."""
+    if not is_number(cut, 0, len(loose)):
+        raise BadCut(cut)
+    return text + loose[:cut]

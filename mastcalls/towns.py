@@ -4,8 +4,9 @@ from mastcalls.errors import BadName
 from mastcalls.helpers import has_key, put_in_order
 from mastcalls.keeping import Kept
 from mastcalls.moving import moves_of, reseated
+from mastcalls.playing import standing_scene
 from mastcalls.safety import danger_for
-from mastcalls.scenes import Call, Scene, is_name
+from mastcalls.scenes import is_name
 
 
 class Town:
@@ -81,14 +82,7 @@ class Town:
 
     def scene(self):
         """The masts that are up, and the calls that one of them hears."""
-        plan = self.plan
-        channels = {mast: plan.channels[mast] for mast in plan.channels if mast not in self.down}
-        calls = {}
-        for name, zone in self.places.items():
-            heard = plan.up_masts(zone, self.down)
-            if heard:
-                calls[name] = Call(0, heard)
-        return Scene(channels, calls)
+        return standing_scene(self.plan, self.places, self.down)
 
     def is_safe(self):
         """Whether no journey is a danger, whichever masts fall."""

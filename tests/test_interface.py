@@ -38,6 +38,15 @@ FILES = {
     "sequencers": ["Sequencer epoch many: to_send() hear(letter) add(entry) settled()"],
     "councils": ["Council many: begin(epoch) send(number) deliver(at is_kept) lose(at) flush(number) fall(number many) "
                  "stop(number) exchange(number up) settled()", "core_by(deeds)"],
+    "patience": ["Patience core most: do(deed)"],
+    "histories": ["told_by(deeds)", "history(deeds call)", "blame(deeds call)", "changed_without(deeds at)",
+                  "lost_without(deeds at)", "gone_in(deeds)"],
+    "townjournals": ["do_in(town deed)", "town_line(number deed)", "town_deeds(text)",
+                     "TownJournal plan most text: do(deed) sync() fallen(cut)"],
+    "alliances": ["lists_of(row)", "Alliance many: publish(number) deliver(at is_kept) lose(at) settled_core()"],
+    "playing": ["standing_scene(plan places down)", "without_seat(plan places down)", "steps_of(places danger)",
+                "play(plan places danger)", "first_lack(plan places danger)"],
+    "crowderrors": ["TooMany most:"],
     "pacing": ["Pace delay losses: put(at word) tick(wishes) is_done()", "slowest(words delay losses)"],
 }
 

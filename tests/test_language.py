@@ -145,12 +145,13 @@ class LanguageTest(unittest.TestCase):
                 if isinstance(node, (ast.FunctionDef, ast.ClassDef)):
                     own.add(node.name)
         for name, tree in trees():
+            handed_in = {node.arg for node in ast.walk(tree) if isinstance(node, ast.arg)}
             for node in ast.walk(tree):
                 if isinstance(node, ast.Call):
                     called = node.func.id if isinstance(node.func, ast.Name) else node.func.attr
                     places = own | {"combinations", "product"}
                     if isinstance(node.func, ast.Name):
-                        self.assertTrue(called in places or called in CALLED, (name, called))
+                        self.assertTrue(called in places | handed_in or called in CALLED, (name, called))
                     else:
                         self.assertTrue(called in own or called in OF_VALUES, (name, called))
                     if called not in own:
@@ -189,7 +190,7 @@ class LanguageTest(unittest.TestCase):
             for node in tree.body:
                 if isinstance(node, ast.Assign) and isinstance(node.value, (ast.Dict, ast.List)):
                     tables.add(node.targets[0].id)
-        self.assertEqual(tables, {"PARTS", "QUESTIONS", "WORDS"})
+        self.assertEqual(tables, {"PARTS", "QUESTIONS", "WORDS", "DEEDS"})
         for name, tree in trees():
             parents = {child: node for node in ast.walk(tree) for child in ast.iter_child_nodes(node)}
             for node in ast.walk(tree):
