@@ -1,9 +1,7 @@
 """Channels that lack, and masts that fall ([10], [11])."""
 
-from itertools import combinations
-
 from mastcalls.errors import BadName
-from mastcalls.helpers import has_key, is_number
+from mastcalls.helpers import has_key, is_number, lots_up_to
 from mastcalls.keeping import Kept, kept
 from mastcalls.scenes import Call, Scene
 
@@ -29,15 +27,6 @@ def without(scene, masts):
     return Scene(channels, calls)
 
 
-def lots_of_masts(scene, most):
-    """All lots of up to so many masts, the shorter ones first, of one length ascending."""
-    masts = list(scene.channels)
-    lots = []
-    for many in range(min(most, len(masts)) + 1):
-        lots.extend(list(combinations(masts, many)))
-    return lots
-
-
 def lost_calls(scene):
     """How many calls aren't kept."""
     return len(scene.calls) - len(kept(scene))
@@ -48,7 +37,7 @@ def worst_falls(scene, most):
     if not is_number(most, 0, len(scene.channels)):
         raise BadName(most)
     worst = (lost_calls(scene), ())
-    for masts in lots_of_masts(scene, most):
+    for masts in lots_up_to(scene.channels, most):
         lost = lost_calls(without(scene, masts))
         if lost > worst[0]:
             worst = (lost, masts)
@@ -58,7 +47,7 @@ def worst_falls(scene, most):
 def sure_calls(scene, most):
     """The calls that are kept whichever up to so many masts fall."""
     sure = list(scene.calls)
-    for masts in lots_of_masts(scene, most):
+    for masts in lots_up_to(scene.channels, most):
         lot = kept(without(scene, masts))
         sure = [name for name in sure if name in lot]
     return tuple(sure)

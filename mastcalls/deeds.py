@@ -62,6 +62,20 @@ def read_masts(words, first, line):
     return tuple([read_word(words, at, "name", line) for at in range(first, len(words))])
 
 
+def read_name(words, at, line, table, is_there):
+    """The name at a place, which must be in a table, or must not be there."""
+    name = read_word(words, at, "name", line)
+    if (name in table) != is_there:
+        raise BadText(line, at)
+    return name
+
+
+def check_end(words, many, line):
+    """BadText for the first word too much."""
+    if len(words) > many:
+        raise BadText(line, many)
+
+
 def is_written_number(word):
     """Whether a word is a number of at most 12 figures, none needless."""
     if not 1 <= len(word) <= MOST_FIGURES or not all([sign in FIGURES for sign in word]):

@@ -1,4 +1,6 @@
-"""What several modules need: numbers within limits, dicts whose keys ascend, letters at places."""
+"""What several modules need: numbers within limits, dicts whose keys ascend, letters at places, lots of names."""
+
+from itertools import combinations
 
 from mastcalls.errors import BadName
 
@@ -29,3 +31,12 @@ def take_letter(letters, at, is_kept):
     if not is_kept:
         del letters[at]
     return letter
+
+
+def lots_up_to(names, most):
+    """All lots of up to so many names, the shorter ones first, of one length ascending."""
+    row = sorted(names)
+    lots = []
+    for many in range(min(most, len(row)) + 1):
+        lots.extend(list(combinations(row, many)))
+    return lots

@@ -18,25 +18,13 @@ class Danger:
                 and self.ways == other.ways)
 
 
-class Roamers:
-    """Calls in zones, and where each of them can come to."""
+class Lots:
+    """Lots of masts as numbers, with a bit for each mast: so unions of many are quick."""
 
-    # Lots of masts are numbers here, with a bit for each mast: so unions of many are quick.
-
-    def __init__(self, plan, places):
+    def __init__(self, plan, masts):
         self.plan = plan
-        self.places = places
-        starts = list(places.values())
-        self.many = {zone: starts.count(zone) for zone in sorted(set(starts))}
-        self.ways = {zone: plan.reach(zone) for zone in self.many}
-        # Of dangers with fewest falls none has a mast down that nobody can come to.
-        self.masts = sorted({mast for ways in self.ways.values() for zone in ways for mast in plan.heard[zone]})
-        self.bits = {mast: 1 << at for at, mast in enumerate(self.masts)}
-        self.lots = {zone: self.lots_within(zone) for zone in self.many}
-
-    def lots_within(self, zone):
-        """The lots of masts that are heard in the zones that can be come to from a zone, each once."""
-        return sorted({self.lot_of(self.plan.heard[other]) for other in self.ways[zone]})
+        self.masts = masts
+        self.bits = {mast: 1 << at for at, mast in enumerate(masts)}
 
     def lot_of(self, masts):
         """Some masts as a lot."""
@@ -46,27 +34,61 @@ class Roamers:
         """The masts of a lot."""
         return tuple([mast for mast in self.masts if (self.bits[mast] & lot) != 0])
 
+    def unions(self, lots, bound):
+        """All unions of one or more lots that have fewer channels than a bound, and how many they have."""
+        found = {0: 0}
+        for one in sorted(set(lots)):
+            for other in list(found):
+                room = self.plan.room(self.masts_in(one | other))
+                if room < bound:
+                    found[one | other] = room
+        del found[0]
+        return found
+
+
+class Roamers:
+    """Calls in zones, where each of them can come to, and so many more calls that may come up anywhere."""
+
+    def __init__(self, plan, places, extra):
+        self.plan = plan
+        self.places = places
+        self.extra = extra
+        starts = list(places.values())
+        self.many = {zone: starts.count(zone) for zone in sorted(set(starts))}
+        self.ways = {zone: plan.reach(zone) for zone in self.many}
+        anywhere = list(plan.heard) if extra > 0 else []
+        zones = anywhere + [end for ways in self.ways.values() for end in ways]
+        # Of dangers with fewest falls none has a mast down that nobody can come to.
+        self.masts = sorted({mast for zone in zones for mast in plan.heard[zone]})
+        self.lots = Lots(plan, self.masts)
+        self.ends = {zone: self.lots_within(list(self.ways[zone])) for zone in self.many}
+        self.anywhere = self.lots_within(anywhere)
+
+    def lots_within(self, zones):
+        """The lots of masts that are heard in some zones, each once."""
+        return sorted({self.lots.lot_of(self.plan.heard[zone]) for zone in zones})
+
+    def gatherings(self, falls):
+        """With some masts down, for all lots of masts that may have too few channels: the lot, its
+        channels, and how many calls can be where only these masts are heard."""
+        up = self.lots.lot_of([mast for mast in self.masts if mast not in falls])
+        least = {zone: least_lots([lot & up for lot in self.ends[zone]]) for zone in self.many}
+        sources = least_lots([lot & up for lot in self.anywhere])
+        for lots in least.values():
+            sources.extend(lots)
+        found = []
+        for union, room in self.lots.unions(sources, len(self.places) + self.extra).items():
+            comers = [self.many[zone] for zone in least if any([(lot | union) == union for lot in least[zone]])]
+            found.append((union, room, sum(comers)))
+        return found
+
     def overfull(self, falls):
         """Masts with fewer channels than calls that can be where only these are heard, with some
         masts down; None if there are none."""
-        up = self.lot_of([mast for mast in self.masts if mast not in falls])
-        least = {zone: least_lots([lot & up for lot in self.lots[zone]]) for zone in self.many}
-        for union, room in self.unions(least).items():
-            comers = [self.many[zone] for zone in least if any([(lot | union) == union for lot in least[zone]])]
-            if sum(comers) > room:
-                return self.masts_in(union)
+        for lot, room, comers in self.gatherings(falls):
+            if comers + self.extra > room:
+                return self.lots.masts_in(lot)
         return None
-
-    def unions(self, least):
-        """All unions of some of the lots that have fewer channels than there are calls, and how many."""
-        lots = sorted({lot for row in least.values() for lot in row})
-        found = {0: 0}
-        for one in lots:
-            for other in list(found):
-                room = self.plan.room(self.masts_in(one | other))
-                if room < len(self.places):
-                    found[one | other] = room
-        return found
 
     def ways_to(self, masts, falls):
         """For each call that can come to where only some masts are heard, a shortest way there."""
@@ -92,13 +114,20 @@ def is_theirs(plan, zone, masts, falls):
 
 def danger_for(plan, places, most):
     """A danger for calls in zones with up to so many masts down, fewest falls first; None without any."""
-    roamers = Roamers(plan, places)
-    for many in range(min(most, len(roamers.masts)) + 1):
-        for falls in combinations(roamers.masts, many):
-            masts = roamers.overfull(falls)
-            if masts is not None:
-                return Danger(falls, masts, roamers.ways_to(masts, falls))
-    return None
+    roamers = Roamers(plan, places, 0)
+    falls, masts = first_falls(roamers.masts, most, lambda lot: roamers.overfull(lot))
+    return None if falls is None else Danger(falls, masts, roamers.ways_to(masts, falls))
+
+
+def first_falls(masts, most, danger_of):
+    """The first lot of up to so many masts, the shorter ones first, of which a function tells a danger, and
+    what it tells; None and None without any."""
+    for many in range(min(most, len(masts)) + 1):
+        for falls in combinations(masts, many):
+            danger = danger_of(falls)
+            if danger is not None:
+                return falls, danger
+    return None, None
 
 
 def shows(plan, places, most, danger):

@@ -23,13 +23,25 @@ class Town:
 
     def begin(self, name, zone):
         """Takes a call, and tells None, if there is no danger with it; else tells the danger."""
+        self.check_new(name, zone)
+        places = self.places_with(name, zone)
+        return self.take(places, danger_for(self.plan, places, self.most))
+
+    def check_new(self, name, zone):
+        """BadName for a name that is none or there, or for no zone."""
         if not is_name(name) or name in self.places:
             raise BadName(name)
         if not has_key(self.plan.heard, zone):
             raise BadName(zone)
+
+    def places_with(self, name, zone):
+        """Where all calls are, with one more."""
         places = dict(self.places)
         put_in_order(places, name, zone)
-        danger = danger_for(self.plan, places, self.most)
+        return places
+
+    def take(self, places, danger):
+        """Takes the calls of some places, unless there is a danger; the danger."""
         if danger is not None:
             self.refused += 1
             return danger
@@ -42,6 +54,10 @@ class Town:
         self.check_call(name)
         if zone not in self.plan.next_zones(self.places[name]):
             raise BadName(zone)
+        return self.bring(name, zone)
+
+    def bring(self, name, zone):
+        """A call is in another zone now, however it came there; the calls that move."""
         self.places[name] = zone
         return self.settle()
 

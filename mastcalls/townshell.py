@@ -1,6 +1,6 @@
 """Maps as lines, and scripts for a town ([26])."""
 
-from mastcalls.deeds import read_word
+from mastcalls.deeds import check_end, read_name, read_word
 from mastcalls.errors import BadName, BadScene, BadText
 from mastcalls.maps import Map
 from mastcalls.moving import moves_of
@@ -47,20 +47,6 @@ def map_by_lines(lines):
         return Map(channels, heard, roads)
     except BadScene:
         raise BadText(len(lines), 0)
-
-
-def read_name(words, at, line, table, is_there):
-    """The name at a place, which must be in a table, or must not be there."""
-    name = read_word(words, at, "name", line)
-    if (name in table) != is_there:
-        raise BadText(line, at)
-    return name
-
-
-def check_end(words, many, line):
-    """BadText for the first word too much."""
-    if len(words) > many:
-        raise BadText(line, many)
 
 
 def run_town(text):

@@ -11,11 +11,11 @@ MASTS = ["a", "b", "c", "d"]
 ZONES = ["hill", "dale", "lake", "moor"]
 
 
-def drawn_map(random, most_masts=3, most_zones=4, most_channels=2, most_roads=6):
+def drawn_map(random, most_masts=3, most_zones=4, most_channels=2, most_roads=6, most_heard=2):
     """Some map; its masts, zones and roads are handed in in no order."""
     masts = random.sample(MASTS, random.randint(0, most_masts))
     zones = random.sample(ZONES, random.randint(0, most_zones))
-    heard = {zone: random.sample(masts, random.randint(0, min(len(masts), 2))) for zone in zones}
+    heard = {zone: random.sample(masts, random.randint(0, min(len(masts), most_heard))) for zone in zones}
     roads = []
     if zones:
         roads = [(random.choice(zones), random.choice(zones)) for _ in range(random.randint(0, most_roads))]

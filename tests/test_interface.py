@@ -47,6 +47,23 @@ FILES = {
     "playing": ["standing_scene(plan places down)", "without_seat(plan places down)", "steps_of(places danger)",
                 "play(plan places danger)", "first_lack(plan places danger)"],
     "crowderrors": ["TooMany most:"],
+    "crowds": ["counts_of(plan places)", "is_standing(plan limits places)",
+               "standings_from(plan limits counts most)", "CrowdDanger falls masts steps: __eq__(other)",
+               "crowd_danger(plan limits places most standings)", "shows_crowd(plan limits places most danger)"],
+    "gathering": ["are_both_ways(plan)", "quick_danger(plan limits places most)",
+                  "CrowdTown plan limits most: begin(name zone) go(name zone) is_safe()"],
+    "ranked": ["RankDanger falls masts ways extra: __eq__(other)", "danger_beside(plan places most extra)",
+               "greatest_promise(plan places most)",
+               "RankTown plan most extra: begin_urgent(name zone) begin(name zone) end(name) is_safe()"],
+    "borders": ["check_homes(plan homes)", "view_of(plan homes at)",
+                "Border plan homes mosts: begin(name zone) is_taken(name) go(name zone) end(name) send(at) "
+                "deliver(at is_kept) lose(at) quiet() fall(mast) rise(mast) are_safe()"],
+    "growing": ["with_more(plan more)", "is_enough(plan places most more)", "fewest_channels(plan places most)",
+                "with_masts(plan sites masts)", "fewest_masts(plan places most sites)",
+                "safe_sites(plan places most sites)"],
+    "drawings": ["Site row column channels square: __eq__(other)",
+                 "Drawing rows sites: __eq__(other) cells() hears(mast cell) deaf_cells()", "zone_of(cell)",
+                 "map_of(drawing)", "read_drawing(text)", "write_drawing(drawing)", "heard_picture(drawing)"],
     "pacing": ["Pace delay losses: put(at word) tick(wishes) is_done()", "slowest(words delay losses)"],
 }
 

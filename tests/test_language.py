@@ -20,6 +20,7 @@ OF_VALUES = ("append clear copy count endswith extend find get index insert isal
              "isupper items join keys ljust lower lstrip partition pop remove replace reverse rfind rjust rpartition "
              "rsplit rstrip setdefault split splitlines startswith strip update upper values zfill").split()
 NEVER = ("register mro elements open input law version_info with_traceback add_note").split()
+ERRORS = ("BadName", "BadText", "BadScene", "BadCut", "TooMany")
 WORDS = ("type typing enum Enum Flag Generic Protocol ABC namedtuple NamedTuple dataclass overload "
          "contextmanager").split()
 
@@ -149,8 +150,10 @@ class LanguageTest(unittest.TestCase):
             for node in ast.walk(tree):
                 if isinstance(node, ast.Call):
                     called = node.func.id if isinstance(node.func, ast.Name) else node.func.attr
-                    places = own | {"combinations", "product"}
-                    if isinstance(node.func, ast.Name):
+                    places = own | {"combinations", "product", "heappush", "heappop"}
+                    if called == "super":
+                        self.assertEqual((node.args, node.keywords), ([], []))
+                    elif isinstance(node.func, ast.Name):
                         self.assertTrue(called in places | handed_in or called in CALLED, (name, called))
                     else:
                         self.assertTrue(called in own or called in OF_VALUES, (name, called))
@@ -159,6 +162,7 @@ class LanguageTest(unittest.TestCase):
                                             for key in node.keywords), (name, called))
 
     def test_a_name_is_no_method_and_attribute_of_one_class(self):
+        families = {}
         for name, tree in trees():
             for part in ast.walk(tree):
                 if isinstance(part, ast.ClassDef):
@@ -166,7 +170,39 @@ class LanguageTest(unittest.TestCase):
                     kept = {node.attr for node in ast.walk(part)
                             if isinstance(node, ast.Attribute) and isinstance(node.ctx, ast.Store)}
                     self.assertEqual(len(methods), len(set(methods)), (name, part.name))
-                    self.assertEqual(sorted(kept & set(methods)), [], (name, part.name))
+                    bases = [base.id for base in part.bases]
+                    self.assertLessEqual(len(bases), 1, (name, part.name))
+                    families[part.name] = bases, set(methods), kept
+        for part, (bases, methods, kept) in families.items():
+            while bases and bases[0] in families:
+                above = families[bases[0]]
+                bases, methods, kept = above[0], methods | above[1], kept | above[2]
+            self.assertEqual(sorted(kept & methods), [], part)
+
+    def test_nothing_is_read_off_a_class(self):
+        classes = {part.name for _, tree in trees() for part in ast.walk(tree) if isinstance(part, ast.ClassDef)}
+        for name, tree in trees():
+            for node in ast.walk(tree):
+                if isinstance(node, ast.Attribute) and isinstance(node.value, ast.Name):
+                    self.assertNotIn(node.value.id, classes, (name, node.lineno))
+
+    def test_calls_pass_what_is_taken(self):
+        takes = {}
+        for _, tree in trees():
+            for node in tree.body:
+                if isinstance(node, ast.FunctionDef):
+                    takes.setdefault(node.name, set()).add(len(node.args.args))
+                if isinstance(node, ast.ClassDef):
+                    for part in node.body:
+                        if isinstance(part, ast.FunctionDef):
+                            word = node.name if part.name == "__init__" else "." + part.name
+                            takes.setdefault(word, set()).add(len(part.args.args) - 1)
+        for name, tree in trees():
+            for node in ast.walk(tree):
+                if isinstance(node, ast.Call) and not node.keywords:
+                    word = node.func.id if isinstance(node.func, ast.Name) else "." + node.func.attr
+                    if word in takes and word[1:] not in OF_VALUES:
+                        self.assertIn(len(node.args), takes[word], (name, node.lineno, word))
 
     def test_sets_stand_where_they_may(self):
         for name, tree in trees():
@@ -201,6 +237,6 @@ class LanguageTest(unittest.TestCase):
         for name, tree in trees():
             for node in ast.walk(tree):
                 if isinstance(node, ast.ExceptHandler):
-                    self.assertIn(node.type.id, ("BadName", "BadText", "BadScene", "BadCut", "KeyError"), name)
+                    self.assertIn(node.type.id, ERRORS, name)
                 if isinstance(node, ast.Raise) and node.exc is not None:
-                    self.assertIn(node.exc.func.id, ("BadName", "BadText", "BadScene", "BadCut"), name)
+                    self.assertIn(node.exc.func.id, ERRORS, name)
