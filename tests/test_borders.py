@@ -293,6 +293,34 @@ class BorderTest(unittest.TestCase):
                 self.assertIs(caught.exception.name, at)
                 self.assertEqual(picture(border), was)
 
+    def test_letters_that_are_put_now(self):
+        border = Border(PLAN, HOMES, (0, 0))
+        for zone, name in (("moor", "one"), ("hill", "two")):
+            border.begin(name, zone)
+            many = len(border.letters)
+            border.send(border.homes[zone])
+            self.assertEqual(len(border.letters), many + 1)
+            border.lose(many)
+            self.assertEqual(len(border.letters), many)
+            while border.letters:
+                border.deliver(0, False)
+            self.assertTrue(border.is_taken(name) or many == 0)
+            border.quiet()
+            border.end(name)
+            many = len(border.letters)
+            while border.letters:
+                border.deliver(0, False)
+            self.assertTrue(many == 0 or name not in border.cores[1 - border.homes[zone]].town.places)
+            border.quiet()
+            self.assertEqual([core.town.places for core in border.cores], [{}, {}])
+
+    def test_are_safe_looks_at_both(self):
+        for at in (0, 1):
+            border = Border(PLAN, HOMES, (0, 0))
+            town = border.cores[at].town
+            town.places = {"one": "dale", "two": "hill"}
+            self.assertFalse(border.are_safe())
+
     def test_is_taken_of_any_name(self):
         border = Border(PLAN, HOMES, (0, 0))
         self.assertEqual([border.is_taken(name) for name in ("one", "", "dale")], [False, False, False])

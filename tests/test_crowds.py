@@ -164,6 +164,7 @@ class CrowdDangerTest(unittest.TestCase):
                 spared += fewest_falls(plan, {}, places, most) is not None
             else:
                 self.assertTrue(is_crowd_danger(plan, limits, places, most, danger))
+                self.assertEqual((list(danger.falls), list(danger.masts)), (sorted(danger.falls), sorted(danger.masts)))
                 self.assertTrue(shows_crowd(plan, limits, places, most, danger))
                 self.assertEqual(crowd_danger(plan, limits, places, most, 9999), danger)
                 for _ in range(5):

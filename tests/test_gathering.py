@@ -74,6 +74,7 @@ class GatheringTest(unittest.TestCase):
             found[many] = found.get(many, 0) + 1
             if danger is not None:
                 self.assertTrue(is_crowd_danger(plan, limits, places, most, danger))
+                self.assertEqual((list(danger.falls), list(danger.masts)), (sorted(danger.falls), sorted(danger.masts)))
                 self.assertTrue(shows_crowd(plan, limits, places, most, danger))
                 self.assertEqual(quick_danger(plan, limits, places, most), danger)
                 steps = max(steps, len(danger.steps))
@@ -199,6 +200,11 @@ class DrawnCrowdTownTest(unittest.TestCase):
                 self.assertTrue(is_crowd_danger(town.plan, town.limits, places, town.most, told))
                 self.assertEqual(picture(town), was[:4] + (was[4] + 1,) + was[5:])
                 return "refused"
+        if word != "begin":
+            before = dict(was[3])
+            moves = tuple(name for name, mast in town.seating.items() if before.get(name) != mast)
+            self.assertEqual(told, moves)
+            self.assertEqual(town.moved, was[5] + sum(name in before for name in moves))
         self.check_town(town)
         return word
 

@@ -86,6 +86,14 @@ class ExampleTest(unittest.TestCase):
         # Without the report by which ann rests, ben comes to where ann is.
         self.assertEqual(blame(deeds[:5] + deeds[6:], "ann"), (6, (("ann", 4), ("ben", None))))
 
+    def test_masts_with_the_names_of_calls(self):
+        deeds = [("mast", "ann", 1), ("mast", "ben", 1), ("begin", "ann", 1), ("hear", "ann", 1, ("ben",)),
+                 ("begin", "cat", 1), ("hear", "cat", 1, ("ann",)), ("begin", "ben", 2), ("hear", "ben", 1, ("ben",))]
+        self.assertEqual(told_by(deeds)[5][1][:2], ("list", "ann"))
+        self.assertEqual(blame(deeds, "ann"), (7, (("ann", 3), ("ben", None))))
+        self.assertEqual(history(deeds, "ann"), [(3, ("seat", "ann", "ben", 1)), (7, ("gone", "ann", ("ann", "ben")))])
+        self.assertEqual(gone_in(deeds), ["ann"])
+
     def test_changed_without(self):
         self.assertEqual(changed_without(ROW, 3), [5, 6])
         self.assertEqual(changed_without(ROW, 4), [])

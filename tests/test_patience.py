@@ -106,6 +106,13 @@ class PatienceTest(unittest.TestCase):
             self.assertEqual(patience.rested, {"ann": ticks})
         self.assertEqual([deed for deed, _ in patience.do(("tick",))], [("tick",), ("end", "ann")])
 
+    def test_names_that_are_words_of_deeds(self):
+        patience = Patience(Core(), 0)
+        for deed in (("mast", "tick", 1), ("begin", "tick", 1), ("down", "tick"), ("up", "tick")):
+            self.assertEqual(patience.do(deed), ((deed, ()),))
+        self.assertEqual(patience.rested, {"tick": 0})
+        self.assertEqual(patience.do(("end", "tick")), ((("end", "tick"), ()),))
+
     def test_wrong_most(self):
         for most in (-1, 1001, True, False, None, "1", 1.0, (1,)):
             core = core_of(START)

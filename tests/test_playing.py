@@ -49,6 +49,7 @@ class ExampleTest(unittest.TestCase):
         told = steps_of(places, danger)
         first = {"one": "dale", "six": "moor", "two": "dale"}
         self.assertEqual(told, [first, dict(first, one="hill"), dict(first, one="hill", two="hill")])
+        self.assertEqual([list(standing) for standing in told], [["one", "six", "two"]] * 3)
         self.assertEqual(play(PLAN, places, danger), [(told[0], ()), (told[1], ()), (told[2], ("two",))])
         self.assertEqual(first_lack(PLAN, places, danger), (2, ("two",)))
         self.assertEqual(first_lack(PLAN, places, Danger(("b",), ("a",), danger.ways)), (0, ("two",)))

@@ -137,6 +137,7 @@ class RankDangerTest(unittest.TestCase):
             if danger is not None:
                 self.assertEqual(danger.extra, extra)
                 self.assertTrue(is_rank_danger(plan, places, most, danger))
+                self.assertEqual((list(danger.falls), list(danger.masts)), (sorted(danger.falls), sorted(danger.masts)))
                 self.assertEqual(danger_beside(plan, places, most, extra), danger)
             plain = danger_for(plan, places, most)
             beside = danger_beside(plan, places, most, 0)
@@ -276,6 +277,9 @@ class DrawnRankTownTest(unittest.TestCase):
                 return "refused"
         elif word == "end":
             promised.pop(parts[0], None)
+        if word in ("go", "end", "fall", "rise"):
+            before = dict(was[4])
+            self.assertEqual(told, tuple(name for name, mast in town.seating.items() if before.get(name) != mast))
         self.assertEqual(list(town.promised), sorted(promised))
         self.check_town(town)
         return kind

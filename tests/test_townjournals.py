@@ -74,7 +74,8 @@ class TextTest(unittest.TestCase):
     def test_the_longest_beginning_of_whole_lines(self):
         for wrong in ("1 end one 1", "0 end one 1", "1 end one 0", "0 end one", "end one 0", "0 0", "0", "", " ",
                       "0 end one 0 ", " 0 end one 0", "00 end one 00", "0 end 0", "0 end one two 0", "0 seats 0",
-                      "0 begin one 0", "0 go one hill dale 0", "0 tick 0", "a end one a", "0 End one 0"):
+                      "0 begin one 0", "0 go one hill dale 0", "0 tick 0", "a end one a", "0 End one 0",
+                      "0 end One 0", "0 end  0", "0 begin one Hill 0", "0 begin A hill 0"):
             self.assertEqual(town_deeds(wrong + "\n"), ((), 0), wrong)
             self.assertEqual(town_deeds(wrong + "\n0 end one 0\n"), ((), 0), wrong)
             after = "0 fall a 0\n" + wrong.replace("0", "2").replace("1", "0") + "\n2 fall a 2\n"
